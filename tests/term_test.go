@@ -338,7 +338,7 @@ func TestRenaming(t *testing.T) {
 			t.Error(c.p, c.old, c.name, s, ok)
 		}
 	}
-	for _, p := range []string{"#x." + letters26, "~.(0&y?x." + letters26 + ")", "*#y.#x." + letters26} {
+	for _, p := range []string{"#x." + letters26, "~.(0&y?x." + letters26 + ")", "*#y.#x." + letters26, "#x.#z." + letters26} {
 		if s, ok := impl.RenameFree(p, "a", "x"); s != "" || ok {
 			t.Error("no letter is left:", p, s, ok)
 		}
