@@ -290,7 +290,22 @@ func parse(p string) (sign, bool) {
 func write(out []byte, s sign) []byte {
 	switch x := s.(type) {
 	case nothing:
-		out = append(out, '0')
+		return append(out, '0')
+	case choice:
+		return writePair(out, x.left, '+', x.right)
+	case beside:
+		return writePair(out, x.left, '&', x.right)
+	}
+	out = writeHead(out, s)
+	for _, part := range s.parts() {
+		out = write(out, part)
+	}
+	return out
+}
+
+// writeHead appends what is written before the part of a sign with one part.
+func writeHead(out []byte, s sign) []byte {
+	switch x := s.(type) {
 	case send:
 		out = append(out, x.over, '!', x.name, '.')
 	case receive:
@@ -303,13 +318,6 @@ func write(out []byte, s sign) []byte {
 		out = append(out, '[', x.one, '=', x.other, ']')
 	case repeat:
 		out = append(out, '*')
-	case choice:
-		return writePair(out, x.left, '+', x.right)
-	case beside:
-		return writePair(out, x.left, '&', x.right)
-	}
-	for _, part := range s.parts() {
-		out = write(out, part)
 	}
 	return out
 }
@@ -321,6 +329,14 @@ func writePair(out []byte, left sign, between byte, right sign) []byte {
 }
 
 func textOf(s sign) string { return string(write(nil, s)) }
+
+func textsOf(list []sign) []string {
+	var texts []string
+	for _, s := range list {
+		texts = append(texts, textOf(s))
+	}
+	return texts
+}
 
 // processText returns the text of a tree. It fails if it exceeds the limits of a process.
 func processText(s sign) (string, bool) {
@@ -470,22 +486,22 @@ func withoutCapture(s sign, old, name byte) (sign, bool) {
 	return withBinder(withParts(s, []sign{part}), letters[0]), true
 }
 
-// scope tells for each letter what stands for it where it is used.
-type scope [26]byte
+// scope tells for each name what stands for it where it is used.
+type scope [256]byte
 
 func freeScope() scope {
 	var sc scope
 	for i := range sc {
-		sc[i] = byte('a' + i)
+		sc[i] = byte(i)
 	}
 	return sc
 }
 
-// bindInOrder lets each sign that binds, the first one first, bind the next of as many names as there are such signs, none of which is free in s; it returns those that are left.
+// bindInOrder lets each sign that binds, the first one first, bind the next of the names, of which there are enough and none is free in s; it returns those that are left.
 func bindInOrder(s sign, sc scope, names []byte) (sign, []byte) {
-	s = withUsed(s, func(used byte) byte { return sc[used-'a'] })
+	s = withUsed(s, func(used byte) byte { return sc[used] })
 	if bound, ok := binderOf(s); ok {
-		sc[bound-'a'] = names[0]
+		sc[bound] = names[0]
 		s, names = withBinder(s, names[0]), names[1:]
 	}
 	parts := s.parts()
@@ -495,14 +511,14 @@ func bindInOrder(s sign, sc scope, names []byte) (sign, []byte) {
 	return withParts(s, parts), names
 }
 
-// numbered returns a text that is the same for all trees that are alike by names: bytes behind the letters stand for the names that are bound, so that there are enough for each process.
-func numbered(s sign) string {
-	names := make([]byte, MaxNodes)
-	for i := range names {
-		names[i] = byte('z' + 1 + i)
+// numbered returns the same tree for all that are alike by names: each sign that binds has a byte behind the letters of its own as its name, of which there are enough for two processes side by side.
+func numbered(s sign) sign {
+	var names []byte
+	for i := 'z' + 1; i < 256; i++ {
+		names = append(names, byte(i))
 	}
 	s, _ = bindInOrder(s, freeScope(), names)
-	return textOf(s)
+	return s
 }
 
 func bindersIn(s sign) int { return countKind(s, "?") + countKind(s, "#") }
@@ -571,11 +587,7 @@ func PartsOf(p string) ([]string, bool) {
 	if !ok {
 		return nil, false
 	}
-	var texts []string
-	for _, part := range s.parts() {
-		texts = append(texts, textOf(part))
-	}
-	return texts, true
+	return textsOf(s.parts()), true
 }
 
 // SubtermAt returns the subterm at a path.
@@ -692,7 +704,7 @@ func AreAlpha(p string, q string) (bool, bool) {
 	if !okS || !okT {
 		return false, false
 	}
-	return numbered(s) == numbered(t), true
+	return textOf(numbered(s)) == textOf(numbered(t)), true
 }
 
 // IsWellNamed reports whether no name is bound by two signs, or bound and free.
