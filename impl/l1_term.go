@@ -149,6 +149,14 @@ func (n nameSet) has(name byte) bool        { return n&nameSet(0).with(name) != 
 func (n nameSet) with(name byte) nameSet    { return n | 1<<(name-'a') }
 func (n nameSet) without(name byte) nameSet { return n &^ nameSet(0).with(name) }
 
+func setOf(names []byte) nameSet {
+	set := nameSet(0)
+	for _, name := range names {
+		set = set.with(name)
+	}
+	return set
+}
+
 // letters returns the names of the set, in order.
 func (n nameSet) letters() []byte {
 	var out []byte
