@@ -309,7 +309,9 @@ func TestLimitsOfSteps(t *testing.T) {
 		{"(a!b.#c.#d.#e.c!d.e!e.0&a?x.#c.#d.c!d.0)", "#a.#b.#c.#d.#e.(a!b.0&c!d.e!e.0)"},
 		{"(a!b.#c.#d.#e.c!d.e!e.0&a?x.#c.#d.#e.c!d.e!e.0)", ""},
 		{"(~.#c.#d.#e.c!d.e!e.0+~.#c.#d.c!d.0)", "#a.#b.#c.a!b.c!c.0 #a.#b.a!b.0"},
-		{"#f.#g.#h.(f!g.h!h.0&(~.#c.#d.#e.c!d.e!e.0+~.#c.#d.c!d.0))", ""}, // one of two
+		// one of two results has more
+		{"#f.#g.#h.(f!g.h!h.0&(~.#c.#d.#e.c!d.e!e.0+~.#c.#d.c!d.0))", ""},
+		{"((a!a.0+a!b.#c.#d.#e.c!d.e!e.0)&a?x.#c.#d.#e.c!d.e!e.0)", ""},
 		// # that are left out do not count
 		{"#x.#y.#z.#w.(~.#c.#d.0&x!y.z!w.0)", "#a.#b.#c.#d.a!b.c!d.0"},
 		{"#x.#y.(a!x.0&a?z.#c.#d.#e.#f.c!d.e!f.0)", "#a.#b.#c.#d.a!b.c!d.0"},
