@@ -171,6 +171,15 @@ func (n nameSet) letters() []byte {
 // others returns the letters that are not in the set, in order.
 func (n nameSet) others() []byte { return (^n).letters() }
 
+// firstOther returns the first letter that is not in the set. It fails if all are.
+func (n nameSet) firstOther() (byte, bool) {
+	others := n.others()
+	if len(others) == 0 {
+		return 0, false
+	}
+	return others[0], true
+}
+
 func isLetter(r rune) bool { return 'a' <= r && r <= 'z' }
 
 // readName returns the name that is the whole text.
@@ -483,15 +492,15 @@ func withoutCapture(s sign, old, name byte) (sign, bool) {
 	if !free.has(old) {
 		return s, true
 	}
-	letters := free.with(name).others() // old is free there
-	if len(letters) == 0 {
-		return nil, false
-	}
-	part, ok := renameFree(part, bound, letters[0])
+	letter, ok := free.with(name).firstOther() // old is free there
 	if !ok {
 		return nil, false
 	}
-	return withBinder(withParts(s, []sign{part}), letters[0]), true
+	part, ok = renameFree(part, bound, letter)
+	if !ok {
+		return nil, false
+	}
+	return withBinder(withParts(s, []sign{part}), letter), true
 }
 
 // scope tells for each name what stands for it where it is used.
@@ -669,11 +678,11 @@ func FreshName(taken string) (string, bool) {
 		}
 		names = names.with(byte(r))
 	}
-	letters := names.others()
-	if len(letters) == 0 {
+	name, ok := names.firstOther()
+	if !ok {
 		return "", false
 	}
-	return string(letters[:1]), true
+	return string(name), true
 }
 
 // RenameFree returns the process with a free name renamed.
