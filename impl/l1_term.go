@@ -180,6 +180,14 @@ func (n nameSet) firstOther() (byte, bool) {
 	return others[0], true
 }
 
+// withNew returns the set with the first letter that is not in it, if there is one.
+func (n nameSet) withNew() nameSet {
+	if name, ok := n.firstOther(); ok {
+		return n.with(name)
+	}
+	return n
+}
+
 func isLetter(r rune) bool { return 'a' <= r && r <= 'z' }
 
 // readName returns the name that is the whole text.
